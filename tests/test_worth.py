@@ -130,6 +130,43 @@ class EverySeasonTest(unittest.TestCase):
         self.assertEqual(asked, ask(("begin", 3, 1, 3, 3), *QUESTIONS[2:])[1:])
 
 
+class PlayedByChancesTest(unittest.TestCase):
+    """What comes of it in the mean, if each day is played with the chances that are told behind the days before."""
+
+    def outcomes(self, line, other_dares):
+        """All plays to the end: how likely each is, and the days it has."""
+        ended = []
+        ahead = [(Fraction(1), [])]
+        while ahead:
+            likely, days = ahead.pop()
+            left, look, dare = ask(*line, *days, ("left",), ("look",), ("dare",))[-3:]
+            if left[0] == 0:
+                ended.append((likely, days))
+                continue
+            x = fraction(look)
+            y = fraction(dare) if other_dares else Fraction(0)
+            for looked, dared in itertools.product((0, 1), repeat=2):
+                chance = likely * (x if looked else 1 - x) * (y if dared else 1 - y)
+                if chance:
+                    ahead.append((chance, days + [("day", looked, dared)]))
+        return ended
+
+    def test_every_day_is_looked_at_as_likely(self):
+        for n, m, b in itertools.product(range(1, 6), range(6), (1, 4, 9)):
+            if m <= n:
+                ended = self.outcomes([("begin", n, m, 1, b)], False)
+                first = fraction(last(("begin", n, m, 1, b), ("look",)))
+                for day in range(n):
+                    self.assertEqual(sum(likely for likely, days in ended if days[day][1]), first)
+
+    def test_worth_is_what_is_gained_in_the_mean(self):
+        for n, m, k, b in itertools.product(range(1, 5), range(5), range(5), (1, 4, 9)):
+            if m <= n and k <= n:
+                line = [("begin", n, m, k, b)]
+                mean = sum(likely * last(*line, *days, ("gain",))[1] for likely, days in self.outcomes(line, True))
+                self.assertEqual(told(mean), last(*line, ("worth",)))
+
+
 class WorthofTest(unittest.TestCase):
     def test_every_season(self):
         for n, m, k, b in seasons():
