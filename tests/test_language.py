@@ -103,6 +103,21 @@ class LanguageTest(unittest.TestCase):
                 if isinstance(node, ast.Call) and isinstance(node.func, ast.Attribute):
                     self.assertIn(node.func.attr, bound | METHODS)
 
+    def test_locals_are_not_called_like_imports_or_classes(self):
+        for path, tree in self.trees():
+            taken = {node.name for node in tree.body if isinstance(node, (ast.FunctionDef, ast.ClassDef))}
+            for node in tree.body:
+                if isinstance(node, ast.ImportFrom):
+                    taken |= {alias.name for alias in node.names}
+                if isinstance(node, ast.Assign):
+                    taken |= {target.id for target in node.targets}
+            for node in [part for part in ast.walk(tree) if isinstance(part, ast.FunctionDef)]:
+                inner = {part.arg for part in ast.walk(node) if isinstance(part, ast.arg)}
+                inner |= {
+                    part.id for part in ast.walk(node) if isinstance(part, ast.Name) and isinstance(part.ctx, ast.Store)
+                }
+                self.assertEqual(inner & taken, set(), (path, node.name))
+
 
 if __name__ == "__main__":
     unittest.main()

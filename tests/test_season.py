@@ -127,21 +127,15 @@ class DayTest(unittest.TestCase):
 
 class PlayedTest(unittest.TestCase):
     def check(self, begin, days):
-        """Plays the days, asks everything behind each, and holds it against the account."""
+        """Plays the days, asks behind each what is left and worth, and holds it against the account."""
         account = Account(*begin)
-        line = [("begin",) + begin, *QUESTIONS]
-        expected = [[0], *account.answers()]
-        for looked, dared in days:
-            line.append(("day", looked, dared))
-            if account.days_left() == 0:
-                expected.append([-6])
-            elif looked > account.looks_left() or dared > account.misdeeds_left():
-                expected.append([-33])
-            else:
-                account.play(looked, dared)
-                expected.append([0, account.gained()])
-            line.extend(QUESTIONS)
-            expected.extend(account.answers())
+        asked = QUESTIONS[:5]
+        line = [("begin",) + begin, *asked]
+        expected = [[0], *[account.answer(*question) for question in asked]]
+        for day in days:
+            for call in (("day",) + day, *asked):
+                line.append(call)
+                expected.append(account.answer(*call))
         self.assertEqual(ask(*line), expected, (begin, days))
 
     def test_all_plays_of_short_seasons(self):

@@ -4,17 +4,9 @@ import itertools
 import unittest
 from fractions import Fraction
 
-from helper import LARGEST, QUESTIONS, ask, dare_by_outcomes, game, last, look_by_sets, told, value
-
-
-def seasons():
-    """All that can be begun."""
-    for n in range(1, 9):
-        yield from itertools.product((n,), range(n + 1), range(n + 1), range(1, 10))
-
-
-def fraction(answer):
-    return Fraction(answer[1], answer[2])
+from helper import (
+    CHANCES, LARGEST, QUESTIONS, ask, dare_by_outcomes, fraction, game, last, look_by_sets, seasons, told, value,
+)
 
 
 class KnownTest(unittest.TestCase):
@@ -44,36 +36,36 @@ class KnownTest(unittest.TestCase):
 class CornerTest(unittest.TestCase):
     def test_one_day(self):
         for b in range(1, 10):
-            self.assertEqual(ask(("begin", 1, 1, 1, b), *QUESTIONS[2:])[1:], [[0, 0, 1], [0, 1, b + 1], [0, 0, 1]])
-            self.assertEqual(ask(("begin", 1, 0, 1, b), *QUESTIONS[2:])[1:], [[0, 1, 1], [0, 0, 1], [0, 1, 1]])
-            self.assertEqual(ask(("begin", 1, 1, 0, b), *QUESTIONS[2:])[1:], [[0, 0, 1], [0, 1, b + 1], [0, 0, 1]])
-            self.assertEqual(ask(("begin", 1, 0, 0, b), *QUESTIONS[2:])[1:], [[0, 0, 1], [0, 0, 1], [0, 0, 1]])
+            self.assertEqual(ask(("begin", 1, 1, 1, b), *CHANCES)[1:], [[0, 0, 1], [0, 1, b + 1], [0, 0, 1]])
+            self.assertEqual(ask(("begin", 1, 0, 1, b), *CHANCES)[1:], [[0, 1, 1], [0, 0, 1], [0, 1, 1]])
+            self.assertEqual(ask(("begin", 1, 1, 0, b), *CHANCES)[1:], [[0, 0, 1], [0, 1, b + 1], [0, 0, 1]])
+            self.assertEqual(ask(("begin", 1, 0, 0, b), *CHANCES)[1:], [[0, 0, 1], [0, 0, 1], [0, 0, 1]])
 
     def test_no_looks(self):
         for n, b in itertools.product(range(1, 9), (1, 9)):
             for k in range(n + 1):
-                asked = ask(("begin", n, 0, k, b), *QUESTIONS[2:])
+                asked = ask(("begin", n, 0, k, b), *CHANCES)
                 self.assertEqual(asked[1:], [[0, k, 1], [0, 0, 1], [0, 1 if k else 0, 1]])
 
     def test_as_many_looks_as_days(self):
         for n, b in itertools.product(range(1, 9), range(1, 10)):
             for k in range(n + 1):
-                asked = ask(("begin", n, n, k, b), *QUESTIONS[2:])
+                asked = ask(("begin", n, n, k, b), *CHANCES)
                 self.assertEqual(asked[1:], [[0, 0, 1], [0, 1, b + 1], [0, 0, 1]])
 
     def test_no_misdeeds(self):
         for n, b in itertools.product(range(1, 9), (1, 5, 9)):
             for m in range(n + 1):
-                asked = ask(("begin", n, m, 0, b), *QUESTIONS[2:])
+                asked = ask(("begin", n, m, 0, b), *CHANCES)
                 self.assertEqual(asked[1:], [[0, 0, 1], told(look_by_sets(n, m, b)), [0, 0, 1]])
 
     def test_as_many_misdeeds_as_days(self):
-        self.assertEqual(ask(("begin", 2, 1, 2, 3), *QUESTIONS[2:])[1:], [[0, 1, 5], [0, 1, 5], [0, 1, 5]])
+        self.assertEqual(ask(("begin", 2, 1, 2, 3), *CHANCES)[1:], [[0, 1, 5], [0, 1, 5], [0, 1, 5]])
 
     def test_more_misdeeds_than_days_are_as_many_as_days(self):
         for n, m, b in itertools.product(range(1, 8), range(8), (1, 4, 9)):
             waited = [("begin", 8, m, 8, b)] + [("day", 0, 0)] * (8 - n)
-            asked = ask(*waited, *QUESTIONS[2:])[len(waited):]
+            asked = ask(*waited, *CHANCES)[len(waited):]
             self.assertEqual(asked[0], told(value(n, m, n, b)))
             self.assertEqual(asked[1], told(look_by_sets(n, m, b)))
             self.assertEqual(asked[2], told(dare_by_outcomes(n, m, 8, b)))
@@ -81,7 +73,7 @@ class CornerTest(unittest.TestCase):
     def test_more_looks_than_days_are_as_many_as_days(self):
         for n, b in itertools.product(range(1, 8), range(1, 10)):
             waited = [("begin", 8, 8, 8, b)] + [("day", 0, 0)] * (8 - n)
-            self.assertEqual(ask(*waited, *QUESTIONS[2:])[len(waited):], [[0, 0, 1], [0, 1, b + 1], [0, 0, 1]])
+            self.assertEqual(ask(*waited, *CHANCES)[len(waited):], [[0, 0, 1], [0, 1, b + 1], [0, 0, 1]])
 
     def test_behind_the_last_day_and_a_catch(self):
         for line in (
@@ -97,7 +89,7 @@ class CornerTest(unittest.TestCase):
 class EverySeasonTest(unittest.TestCase):
     def test_worth_look_dare(self):
         for n, m, k, b in seasons():
-            asked = ask(("begin", n, m, k, b), *QUESTIONS[2:])[1:]
+            asked = ask(("begin", n, m, k, b), *CHANCES)[1:]
             expected = [value(n, m, k, b), look_by_sets(n, m, b), dare_by_outcomes(n, m, k, b)]
             self.assertEqual(asked, [told(number) for number in expected], (n, m, k, b))
 
@@ -105,7 +97,7 @@ class EverySeasonTest(unittest.TestCase):
         for n, m, k, b in seasons():
             if m == 0 or k == 0:
                 continue
-            asked = ask(("begin", n, m, k, b), *QUESTIONS[2:])[1:]
+            asked = ask(("begin", n, m, k, b), *CHANCES)[1:]
             worth, x, y = [fraction(answer) for answer in asked]
             table = game(n, m, k, b)
             self.assertEqual(max(x * table[1, d] + (1 - x) * table[0, d] for d in (0, 1)), worth)
@@ -126,45 +118,8 @@ class EverySeasonTest(unittest.TestCase):
 
     def test_worth_is_of_what_is_left_not_of_what_was(self):
         line = [("begin", 5, 2, 4, 3), ("day", 0, 1), ("day", 1, 0)]
-        asked = ask(*line, *QUESTIONS[2:])[3:]
-        self.assertEqual(asked, ask(("begin", 3, 1, 3, 3), *QUESTIONS[2:])[1:])
-
-
-class PlayedByChancesTest(unittest.TestCase):
-    """What comes of it in the mean, if each day is played with the chances that are told behind the days before."""
-
-    def outcomes(self, line, other_dares):
-        """All plays to the end: how likely each is, and the days it has."""
-        ended = []
-        ahead = [(Fraction(1), [])]
-        while ahead:
-            likely, days = ahead.pop()
-            left, look, dare = ask(*line, *days, ("left",), ("look",), ("dare",))[-3:]
-            if left[0] == 0:
-                ended.append((likely, days))
-                continue
-            x = fraction(look)
-            y = fraction(dare) if other_dares else Fraction(0)
-            for looked, dared in itertools.product((0, 1), repeat=2):
-                chance = likely * (x if looked else 1 - x) * (y if dared else 1 - y)
-                if chance:
-                    ahead.append((chance, days + [("day", looked, dared)]))
-        return ended
-
-    def test_every_day_is_looked_at_as_likely(self):
-        for n, m, b in itertools.product(range(1, 6), range(6), (1, 4, 9)):
-            if m <= n:
-                ended = self.outcomes([("begin", n, m, 1, b)], False)
-                first = fraction(last(("begin", n, m, 1, b), ("look",)))
-                for day in range(n):
-                    self.assertEqual(sum(likely for likely, days in ended if days[day][1]), first)
-
-    def test_worth_is_what_is_gained_in_the_mean(self):
-        for n, m, k, b in itertools.product(range(1, 5), range(5), range(5), (1, 4, 9)):
-            if m <= n and k <= n:
-                line = [("begin", n, m, k, b)]
-                mean = sum(likely * last(*line, *days, ("gain",))[1] for likely, days in self.outcomes(line, True))
-                self.assertEqual(told(mean), last(*line, ("worth",)))
+        asked = ask(*line, *CHANCES)[3:]
+        self.assertEqual(asked, ask(("begin", 3, 1, 3, 3), *CHANCES)[1:])
 
 
 class WorthofTest(unittest.TestCase):

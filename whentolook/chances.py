@@ -1,4 +1,7 @@
-"""What a season is worth and the best chances in it, as fractions (above, below) with nothing in common."""
+"""What a season is worth, the best chances in it and what comes of them, as fractions (above, below), lowest."""
+
+NOTHING = (0, 1)
+CERTAIN = (1, 1)
 
 
 def greatest_divisor(first, second):
@@ -13,6 +16,21 @@ def greatest_divisor(first, second):
 def lowest(above, below):
     shared = greatest_divisor(abs(above), below)
     return (above // shared, below // shared)
+
+
+def less(first, second):
+    return first[0] * second[1] < second[0] * first[1]
+
+
+def one_more(fraction):
+    return (fraction[0] + fraction[1], fraction[1])
+
+
+# What comes in the mean, if first comes with that chance and second else.
+def mixed(chance, first, second):
+    by_first = chance[0] * first[0] * second[1]
+    by_second = (chance[1] - chance[0]) * second[0] * first[1]
+    return lowest(by_first + by_second, chance[1] * first[1] * second[1])
 
 
 # How many sets of so many picked days there are: 0, by a factor of 0, where more are picked than there are.
@@ -50,7 +68,7 @@ def worth(days, looks, misdeeds, fine):
 # There is a day to come. The sets that have it are those of one look fewer on the days behind it.
 def look_chance(days, looks, fine):
     if looks == 0:
-        return (0, 1)
+        return NOTHING
     return lowest(weight(days - 1, looks - 1, fine), weight(days, looks, fine))
 
 
@@ -59,9 +77,9 @@ def look_chance(days, looks, fine):
 # multiplied by both weights behind the day, to be whole.
 def dare_chance(days, looks, misdeeds, fine):
     if misdeeds == 0:
-        return (0, 1)
+        return NOTHING
     if looks == 0:
-        return (1, 1)
+        return CERTAIN
     looked_weight = weight(days - 1, looks - 1, fine)
     passed_weight = weight(days - 1, looks, fine)
     looked_waited = weighed_worth(days - 1, looks - 1, misdeeds) * passed_weight
@@ -70,3 +88,79 @@ def dare_chance(days, looks, misdeeds, fine):
     daring = looked_waited - passed_waited
     waiting = (fine + 1) * looked_weight * passed_weight + passed_dared
     return lowest(daring, daring + waiting)
+
+
+# There is a day to come. What the other gains at most, who may dare or wait against that chance of a look.
+def worth_if_looked(days, looks, misdeeds, fine, chance):
+    if misdeeds == 0:
+        return NOTHING
+    # Not to look is all that the inspector can do without looks, so it's best.
+    if looks == 0:
+        return worth(days, looks, misdeeds, fine)
+    dared = mixed(chance, (-fine, 1), one_more(worth(days - 1, looks, misdeeds - 1, fine)))
+    waited = mixed(chance, worth(days - 1, looks - 1, misdeeds, fine), worth(days - 1, looks, misdeeds, fine))
+    return waited if less(dared, waited) else dared
+
+
+# There is a day to come. What the other gains at the least, where the inspector may look or not against that chance
+# of a misdeed.
+def worth_if_dared(days, looks, misdeeds, fine, chance):
+    if misdeeds == 0:
+        return NOTHING
+    dared = one_more(worth(days - 1, looks, misdeeds - 1, fine))
+    passed = mixed(chance, dared, worth(days - 1, looks, misdeeds, fine))
+    if looks == 0:
+        return passed
+    looked = mixed(chance, (-fine, 1), worth(days - 1, looks - 1, misdeeds, fine))
+    return looked if less(looked, passed) else passed
+
+
+# known holds what is reckoned already, by what is left: many plays lead to the same.
+def caught_from(known, days, looks, misdeeds, fine):
+    if days == 0 or looks == 0 or misdeeds == 0:
+        return NOTHING
+    left = (days, looks, misdeeds)
+    if left not in known:
+        look = look_chance(days, looks, fine)
+        dared = mixed(look, CERTAIN, caught_from(known, days - 1, looks, misdeeds - 1, fine))
+        looked_waited = caught_from(known, days - 1, looks - 1, misdeeds, fine)
+        passed_waited = caught_from(known, days - 1, looks, misdeeds, fine)
+        waited = mixed(look, looked_waited, passed_waited)
+        known[left] = mixed(dare_chance(days, looks, misdeeds, fine), dared, waited)
+    return known[left]
+
+
+def caught_chance(days, looks, misdeeds, fine):
+    return caught_from({}, days, looks, misdeeds, fine)
+
+
+# What it's worth is what's done unseen, less the fine as often as the other is caught.
+def done_mean(days, looks, misdeeds, fine):
+    gained = worth(days, looks, misdeeds, fine)
+    caught = caught_chance(days, looks, misdeeds, fine)
+    return lowest(gained[0] * caught[1] + fine * caught[0] * gained[1], gained[1] * caught[1])
+
+
+# To look day by day with look_chance is to pick one of the sets, by how heavy each is. So there are so many looks
+# spare as often as a set is picked that has so many days fewer than there are looks.
+def spare_chance(days, looks, fine, spare):
+    heavy = ways(days, looks - spare)
+    for look in range(spare):
+        heavy *= fine
+    return lowest(heavy, weight(days, looks, fine))
+
+
+# One look for each day leaves nothing to gain, so as many looks as days are enough.
+def looks_for(days, misdeeds, fine, bound):
+    looks = 0
+    while looks < days and not less(worth(days, looks, misdeeds, fine), bound):
+        looks += 1
+    return looks
+
+
+# 0 if none of these fines does.
+def fine_for(days, looks, misdeeds, most_fine, bound):
+    for fine in range(1, most_fine + 1):
+        if less(worth(days, looks, misdeeds, fine), bound):
+            return fine
+    return 0

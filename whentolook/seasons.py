@@ -1,14 +1,19 @@
 """The calls on one season, as one list of whole numbers, and what they answer, as another."""
 
-from whentolook.chances import dare_chance, look_chance, worth
+from whentolook.chances import caught_chance, dare_chance, done_mean, fine_for, look_chance, looks_for, spare_chance
+from whentolook.chances import worth, worth_if_dared, worth_if_looked
 
 NO_DAYS = -6
 NOT_BEGUN = -11
 NOT_ALLOWED = -22
 NONE_LEFT = -33
+NO_FINE = -33
 
 MOST_DAYS = 8
 MOST_FINE = 9
+MOST_FINE_ASKED = 99
+MOST_CHANCES = 100
+MOST_PARTS = 1000
 
 BEGIN = 0
 
@@ -33,6 +38,10 @@ def season_allowed(days, looks, misdeeds):
 
 def fine_allowed(fine):
     return 1 <= fine <= MOST_FINE
+
+
+def parts_allowed(parts):
+    return 1 <= parts <= MOST_PARTS
 
 
 def told_fraction(fraction):
@@ -114,7 +123,68 @@ def answer_iffine(season, numbers):
     return told_fraction(worth(season.days, season.looks, season.misdeeds, numbers[0]))
 
 
-# By the call's number. The calls from iflook on are not written yet: behind a begin they find no function here.
+# The chance is of 100; left is how many looks or misdeeds there are to be made with it.
+def chance_refusal(season, chances, left):
+    if season.days == 0:
+        return [NO_DAYS]
+    if chances > MOST_CHANCES:
+        return [NOT_ALLOWED]
+    if chances > 0 and left == 0:
+        return [NONE_LEFT]
+    return []
+
+
+def answer_iflook(season, numbers):
+    refusal = chance_refusal(season, numbers[0], season.looks)
+    if refusal != []:
+        return refusal
+    chance = (numbers[0], MOST_CHANCES)
+    return told_fraction(worth_if_looked(season.days, season.looks, season.misdeeds, season.fine, chance))
+
+
+def answer_ifdare(season, numbers):
+    refusal = chance_refusal(season, numbers[0], season.misdeeds)
+    if refusal != []:
+        return refusal
+    chance = (numbers[0], MOST_CHANCES)
+    return told_fraction(worth_if_dared(season.days, season.looks, season.misdeeds, season.fine, chance))
+
+
+def answer_caught(season, numbers):
+    return told_fraction(caught_chance(season.days, season.looks, season.misdeeds, season.fine))
+
+
+def answer_done(season, numbers):
+    return told_fraction(done_mean(season.days, season.looks, season.misdeeds, season.fine))
+
+
+# Every day is looked at as likely as every other, so as likely as the next.
+def answer_looked(season, numbers):
+    if numbers[0] >= season.days:
+        return [NOT_ALLOWED]
+    return told_fraction(look_chance(season.days, season.looks, season.fine))
+
+
+def answer_spare(season, numbers):
+    if numbers[0] > season.looks:
+        return [NOT_ALLOWED]
+    return told_fraction(spare_chance(season.days, season.looks, season.fine, numbers[0]))
+
+
+def answer_looksfor(season, numbers):
+    if not parts_allowed(numbers[0]):
+        return [NOT_ALLOWED]
+    return [looks_for(season.days, season.misdeeds, season.fine, (1, numbers[0]))]
+
+
+def answer_finefor(season, numbers):
+    if not parts_allowed(numbers[0]):
+        return [NOT_ALLOWED]
+    fine = fine_for(season.days, season.looks, season.misdeeds, MOST_FINE_ASKED, (1, numbers[0]))
+    return [NO_FINE] if fine == 0 else [fine]
+
+
+# By the call's number.
 ANSWERERS = (
     answer_begin,
     answer_day,
@@ -125,6 +195,14 @@ ANSWERERS = (
     answer_dare,
     answer_worthof,
     answer_iffine,
+    answer_iflook,
+    answer_ifdare,
+    answer_caught,
+    answer_done,
+    answer_looked,
+    answer_spare,
+    answer_looksfor,
+    answer_finefor,
 )
 
 
